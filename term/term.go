@@ -1,0 +1,110 @@
+// Package term: terms of symbols and variables: see the document's chapter.
+package term
+
+import (
+	"slices"
+	"strings"
+
+	"metaprune/api"
+)
+
+// Check says whether a term may be.
+func Check(t api.Term) api.Errno {
+	if count(t, 0) > api.MaxNodes {
+		return api.ErrLimit
+	}
+	return checkKnots(t)
+}
+
+// count adds the knots of t to those counted before. It stops at the first one
+// too many, so that it ends soon even on a term that holds itself.
+func count(t api.Term, before int) int {
+	n := before + 1
+	for _, a := range t.Args {
+		if n > api.MaxNodes {
+			return n
+		}
+		n = count(a, n)
+	}
+	return n
+}
+
+func checkKnots(t api.Term) api.Errno {
+	if !isName(t.Name) {
+		return api.ErrName
+	}
+	if isVariable(t.Name) && len(t.Args) > 0 {
+		return api.ErrForm
+	}
+	for _, a := range t.Args {
+		if e := checkKnots(a); e != api.OK {
+			return e
+		}
+	}
+	return api.OK
+}
+
+func isName(s string) bool {
+	if len(s) < 1 || len(s) > api.MaxName || isDigit(s[0]) {
+		return false
+	}
+	for i := range len(s) {
+		if !isLetter(s[i]) && !isDigit(s[i]) {
+			return false
+		}
+	}
+	return true
+}
+
+// isVariable tells a variable's name from a symbol's; what is no name must have
+// been turned away before.
+func isVariable(name string) bool { return isCapital(name[0]) }
+
+func isCapital(c byte) bool { return 'A' <= c && c <= 'Z' }
+
+func isLetter(c byte) bool { return 'a' <= c && c <= 'z' || isCapital(c) }
+
+func isDigit(c byte) bool { return '0' <= c && c <= '9' }
+
+// Text of a term that may be.
+func Text(t api.Term) (string, api.Errno) {
+	if e := Check(t); e != api.OK {
+		return "", e
+	}
+	var b strings.Builder
+	write(&b, t)
+	return b.String(), api.OK
+}
+
+func write(b *strings.Builder, t api.Term) {
+	b.WriteString(t.Name)
+	if len(t.Args) == 0 {
+		return
+	}
+	b.WriteByte('(')
+	for i, a := range t.Args {
+		if i > 0 {
+			b.WriteByte(',')
+		}
+		write(b, a)
+	}
+	b.WriteByte(')')
+}
+
+// Names are the variables, as they come first.
+func Names(t api.Term) ([]string, api.Errno) {
+	if e := Check(t); e != api.OK {
+		return nil, e
+	}
+	return addNames(nil, t), api.OK
+}
+
+func addNames(names []string, t api.Term) []string {
+	if isVariable(t.Name) && !slices.Contains(names, t.Name) {
+		names = append(names, t.Name)
+	}
+	for _, a := range t.Args {
+		names = addNames(names, a)
+	}
+	return names
+}
