@@ -1,6 +1,9 @@
 package term
 
-import "metaprune/api"
+import (
+	"metaprune/api"
+	"metaprune/knots"
+)
 
 // Parse reads a term.
 func Parse(text string) (t api.Term, e api.Errno) {
@@ -38,7 +41,7 @@ func (r *reader) term() api.Term {
 	if !r.take('(') {
 		return t
 	}
-	if isVariable(t.Name) {
+	if knots.IsVariable(t.Name) {
 		panic(api.ErrForm)
 	}
 	for {
@@ -54,14 +57,14 @@ func (r *reader) term() api.Term {
 
 func (r *reader) name() string {
 	from := r.next
-	for !r.atEnd() && (isLetter(r.text[r.next]) || isDigit(r.text[r.next])) {
+	for !r.atEnd() && knots.IsSign(r.text[r.next]) {
 		r.next++
 	}
 	name := r.text[from:r.next]
 	if name == "" {
 		panic(r.refusal())
 	}
-	if !isName(name) {
+	if !knots.IsName(name) {
 		panic(api.ErrName)
 	}
 	return name

@@ -4,6 +4,7 @@ import (
 	"slices"
 
 	"metaprune/api"
+	"metaprune/knots"
 )
 
 // Places are all places of a term: each ahead of those below it, from the left on.
@@ -33,7 +34,7 @@ func At(t api.Term, place []int) (api.Term, api.Errno) {
 	if !ok {
 		return api.Term{}, api.ErrPlace
 	}
-	return copyOf(x), api.OK
+	return knots.Copy(x), api.OK
 }
 
 // Put is a term with another one at a place.
@@ -64,24 +65,15 @@ func find(t api.Term, place []int) (api.Term, bool) {
 // replace is a copy of t with a copy of x at a place that t has.
 func replace(t api.Term, place []int, x api.Term) api.Term {
 	if len(place) == 0 {
-		return copyOf(x)
+		return knots.Copy(x)
 	}
 	out := api.Term{Name: t.Name, Args: make([]api.Term, len(t.Args))}
 	for i, a := range t.Args {
 		if i == place[0] {
 			out.Args[i] = replace(a, place[1:], x)
 		} else {
-			out.Args[i] = copyOf(a)
+			out.Args[i] = knots.Copy(a)
 		}
-	}
-	return out
-}
-
-// copyOf is a term in memory of its own, since what is handed out is the caller's.
-func copyOf(t api.Term) api.Term {
-	out := api.Term{Name: t.Name}
-	for _, a := range t.Args {
-		out.Args = append(out.Args, copyOf(a))
 	}
 	return out
 }

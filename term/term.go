@@ -6,6 +6,7 @@ import (
 	"strings"
 
 	"metaprune/api"
+	"metaprune/knots"
 )
 
 // Check says whether a term may be.
@@ -30,10 +31,10 @@ func count(t api.Term, before int) int {
 }
 
 func checkKnots(t api.Term) api.Errno {
-	if !isName(t.Name) {
+	if !knots.IsName(t.Name) {
 		return api.ErrName
 	}
-	if isVariable(t.Name) && len(t.Args) > 0 {
+	if knots.IsVariable(t.Name) && len(t.Args) > 0 {
 		return api.ErrForm
 	}
 	for _, a := range t.Args {
@@ -43,28 +44,6 @@ func checkKnots(t api.Term) api.Errno {
 	}
 	return api.OK
 }
-
-func isName(s string) bool {
-	if len(s) < 1 || len(s) > api.MaxName || isDigit(s[0]) {
-		return false
-	}
-	for i := range len(s) {
-		if !isLetter(s[i]) && !isDigit(s[i]) {
-			return false
-		}
-	}
-	return true
-}
-
-// isVariable tells a variable's name from a symbol's; what is no name must have
-// been turned away before.
-func isVariable(name string) bool { return isCapital(name[0]) }
-
-func isCapital(c byte) bool { return 'A' <= c && c <= 'Z' }
-
-func isLetter(c byte) bool { return 'a' <= c && c <= 'z' || isCapital(c) }
-
-func isDigit(c byte) bool { return '0' <= c && c <= '9' }
 
 // Text of a term that may be.
 func Text(t api.Term) (string, api.Errno) {
@@ -100,7 +79,7 @@ func Names(t api.Term) ([]string, api.Errno) {
 }
 
 func addNames(names []string, t api.Term) []string {
-	if isVariable(t.Name) && !slices.Contains(names, t.Name) {
+	if knots.IsVariable(t.Name) && !slices.Contains(names, t.Name) {
 		names = append(names, t.Name)
 	}
 	for _, a := range t.Args {
