@@ -3,7 +3,13 @@
 // so nothing here asks how many there are, but where it says so.
 package knots
 
-import "metaprune/api"
+import (
+	"cmp"
+	"slices"
+	"strings"
+
+	"metaprune/api"
+)
 
 // IsName: is a text a name, a variable's or a symbol's?
 func IsName(s string) bool {
@@ -49,5 +55,43 @@ func Copy(t api.Term) api.Term {
 	for _, a := range t.Args {
 		out.Args = append(out.Args, Copy(a))
 	}
+	return out
+}
+
+// Text of a term: no two that are not the same have one.
+func Text(t api.Term) string {
+	var b strings.Builder
+	write(&b, t)
+	return b.String()
+}
+
+func write(b *strings.Builder, t api.Term) {
+	b.WriteString(t.Name)
+	if len(t.Args) == 0 {
+		return
+	}
+	b.WriteByte('(')
+	for i, a := range t.Args {
+		if i > 0 {
+			b.WriteByte(',')
+		}
+		write(b, a)
+	}
+	b.WriteByte(')')
+}
+
+// Holds: does a variable stand in a term?
+func Holds(t api.Term, name string) bool {
+	return t.Name == name || slices.ContainsFunc(t.Args, func(a api.Term) bool { return Holds(a, name) })
+}
+
+// InOrder takes bindings out of a map, in memory of their own: what stands for
+// two variables may be parts of one term.
+func InOrder(stands map[string]api.Term) []api.Bind {
+	var out []api.Bind
+	for name, x := range stands {
+		out = append(out, api.Bind{Name: name, Term: Copy(x)})
+	}
+	slices.SortFunc(out, func(a, b api.Bind) int { return cmp.Compare(a.Name, b.Name) })
 	return out
 }

@@ -92,3 +92,81 @@ func TestFitOfGreatTerms(t *testing.T) {
 		t.Errorf("Fit: %v", ok)
 	}
 }
+
+func TestCopyIsFreshAtAllKnots(t *testing.T) {
+	x := knot("f", knot("h", knot("k", knot("a"))), knot("b"))
+	y := Copy(x)
+	y.Args[0].Args[0].Args[0] = knot("spoilt")
+	y.Args[0].Args[0] = knot("spoilt")
+	y.Args[1] = knot("spoilt")
+	if Text(x) != "f(h(k(a)),b)" {
+		t.Errorf("written into: %s", Text(x))
+	}
+}
+
+func TestText(t *testing.T) {
+	for _, c := range []struct {
+		t    api.Term
+		want string
+	}{
+		{knot("a"), "a"},
+		{knot("h", knot("X")), "h(X)"},
+		{knot("f", knot("g", knot("a"), knot("b")), knot("c")), "f(g(a,b),c)"},
+	} {
+		if s := Text(c.t); s != c.want {
+			t.Errorf("Text: %s, want %s", s, c.want)
+		}
+	}
+	if s := Text(broad(api.MaxGrown, knot("a"))); len(s) != 2+2*api.MaxGrown {
+		t.Errorf("Text of a great term: %d bytes", len(s))
+	}
+}
+
+func TestHolds(t *testing.T) {
+	x := knot("f", knot("a"), knot("h", knot("g", knot("X"), knot("Y"))))
+	for name, want := range map[string]int{"X": 1, "Y": 1, "Z": 0, "XY": 0} {
+		if Holds(x, name) != (want == 1) {
+			t.Errorf("Holds %s: %v", name, want != 1)
+		}
+	}
+	if !Holds(knot("X"), "X") || Holds(knot("Y"), "X") {
+		t.Error("Holds of a variable")
+	}
+}
+
+func TestInOrder(t *testing.T) {
+	x := knot("h", knot("a"))
+	s := InOrder(map[string]api.Term{"X9": x, "X10": x, "A": knot("b")})
+	if len(s) != 3 || s[0].Name != "A" || s[1].Name != "X10" || s[2].Name != "X9" {
+		t.Fatalf("InOrder: %v", s)
+	}
+	s[1].Term.Args[0] = knot("spoilt")
+	if !Same(s[2].Term, knot("h", knot("a"))) || !Same(x, s[2].Term) {
+		t.Errorf("InOrder shares memory: %v", s)
+	}
+	if len(InOrder(nil)) != 0 {
+		t.Error("InOrder of none")
+	}
+}
+
+func TestNamer(t *testing.T) {
+	named, other := Namer(), Namer()
+	for _, c := range []struct{ text, want string }{{"X", "Z1"}, {"Z1", "Z2"}, {"X", "Z1"}, {"", "Z3"}, {"Z1", "Z2"}} {
+		if name := named(c.text); name != c.want {
+			t.Errorf("%q is named %s, want %s", c.text, name, c.want)
+		}
+	}
+	if name := other("Y"); name != "Z1" {
+		t.Errorf("another one begins with %s", name)
+	}
+}
+
+// One namer names the variables of several terms, as of both sides of a rule.
+func TestRename(t *testing.T) {
+	named := Namer()
+	x := Rename(knot("f", knot("Y"), knot("h", knot("X")), knot("a")), named)
+	y := Rename(knot("g", knot("X"), knot("Z1")), named)
+	if Text(x) != "f(Z1,h(Z2),a)" || Text(y) != "g(Z2,Z3)" {
+		t.Errorf("Rename: %s, %s", Text(x), Text(y))
+	}
+}

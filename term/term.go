@@ -3,7 +3,6 @@ package term
 
 import (
 	"slices"
-	"strings"
 
 	"metaprune/api"
 	"metaprune/knots"
@@ -50,24 +49,7 @@ func Text(t api.Term) (string, api.Errno) {
 	if e := Check(t); e != api.OK {
 		return "", e
 	}
-	var b strings.Builder
-	write(&b, t)
-	return b.String(), api.OK
-}
-
-func write(b *strings.Builder, t api.Term) {
-	b.WriteString(t.Name)
-	if len(t.Args) == 0 {
-		return
-	}
-	b.WriteByte('(')
-	for i, a := range t.Args {
-		if i > 0 {
-			b.WriteByte(',')
-		}
-		write(b, a)
-	}
-	b.WriteByte(')')
+	return knots.Text(t), api.OK
 }
 
 // Names are the variables, as they come first.
