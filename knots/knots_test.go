@@ -1,21 +1,20 @@
 package knots
 
 import (
+	"fmt"
+	"iter"
+	"slices"
+	"strings"
 	"testing"
 
 	"metaprune/api"
+	"metaprune/sample"
 )
 
-func knot(name string, args ...api.Term) api.Term { return api.Term{Name: name, Args: args} }
-
-// broad is f above so many of x.
-func broad(many int, x api.Term) api.Term {
-	t := knot("f")
-	for range many {
-		t.Args = append(t.Args, x)
-	}
-	return t
-}
+var (
+	knot  = sample.Knot
+	broad = sample.Broad
+)
 
 func none(string) (api.Term, bool) { return api.Term{}, false }
 
@@ -168,5 +167,103 @@ func TestRename(t *testing.T) {
 	y := Rename(knot("g", knot("X"), knot("Z1")), named)
 	if Text(x) != "f(Z1,h(Z2),a)" || Text(y) != "g(Z2,Z3)" {
 		t.Errorf("Rename: %s, %s", Text(x), Text(y))
+	}
+}
+
+// places tells the first most places that are gone through, and what is there.
+func places(l iter.Seq2[[]int, api.Term], most int) []string {
+	var out []string
+	for place, x := range l {
+		if len(out) == most {
+			break
+		}
+		out = append(out, fmt.Sprint(place, " ", Text(x)))
+	}
+	return out
+}
+
+func TestDownAndUp(t *testing.T) {
+	x := knot("f", knot("a"), knot("g", knot("h", knot("X")), knot("b")), knot("c"))
+	for _, c := range []struct {
+		from     []int
+		down, up string
+	}{
+		{nil, "[] f(a,g(h(X),b),c); [0] a; [1] g(h(X),b); [1 0] h(X); [1 0 0] X; [1 1] b; [2] c", "[0] a; [1 0 0] X; [1 0] h(X); [1 1] b; [1] g(h(X),b); [2] c; [] f(a,g(h(X),b),c)"},
+		{[]int{0}, "[] f(a,g(h(X),b),c); [0] a; [1] g(h(X),b); [1 0] h(X); [1 0 0] X; [1 1] b; [2] c", "[0] a; [1 0 0] X; [1 0] h(X); [1 1] b; [1] g(h(X),b); [2] c; [] f(a,g(h(X),b),c)"},
+		{[]int{1}, "[] f(a,g(h(X),b),c); [1] g(h(X),b); [1 0] h(X); [1 0 0] X; [1 1] b; [2] c", "[1 0 0] X; [1 0] h(X); [1 1] b; [1] g(h(X),b); [2] c; [] f(a,g(h(X),b),c)"},
+		{[]int{1, 1}, "[] f(a,g(h(X),b),c); [1] g(h(X),b); [1 1] b; [2] c", "[1 1] b; [1] g(h(X),b); [2] c; [] f(a,g(h(X),b),c)"},
+		{[]int{2}, "[] f(a,g(h(X),b),c); [2] c", "[2] c; [] f(a,g(h(X),b),c)"},
+	} {
+		goesThrough(t, Down(x, c.from), c.down)
+		goesThrough(t, Up(x, c.from), c.up)
+	}
+}
+
+func goesThrough(t *testing.T, l iter.Seq2[[]int, api.Term], want string) {
+	t.Helper()
+	all := places(l, 99)
+	if got := strings.Join(all, "; "); got != want {
+		t.Errorf("%s, want %s", got, want)
+	}
+	for most := range all {
+		if some := places(l, most); !slices.Equal(some, all[:most]) {
+			t.Errorf("left behind %d: %v, want %v", most, some, all[:most])
+		}
+	}
+}
+
+func TestPut(t *testing.T) {
+	x := knot("f", knot("a"), knot("g", knot("h", knot("X")), knot("b")))
+	for _, c := range []struct {
+		place []int
+		want  string
+	}{
+		{nil, "k(c)"},
+		{[]int{0}, "f(k(c),g(h(X),b))"},
+		{[]int{1, 0, 0}, "f(a,g(h(k(c)),b))"},
+		{[]int{1, 1}, "f(a,g(h(X),k(c)))"},
+	} {
+		if y := Put(x, c.place, knot("k", knot("c"))); Text(y) != c.want {
+			t.Errorf("Put at %v: %s, want %s", c.place, Text(y), c.want)
+		}
+		if Text(x) != "f(a,g(h(X),b))" {
+			t.Fatalf("Put at %v: written into: %s", c.place, Text(x))
+		}
+	}
+}
+
+func TestCount(t *testing.T) {
+	for _, c := range []struct {
+		x          api.Term
+		most, want int
+	}{
+		{knot("a"), 9, 1},
+		{knot("a"), 0, 1},
+		{broad(9, knot("a")), 10, 10},
+		{broad(9, knot("a")), 9, 10},
+		{broad(9, broad(9, knot("a"))), 200, 91},
+		{broad(9, broad(9, knot("a"))), 20, 21},
+		{sample.Endless(), 1000, 1001},
+	} {
+		if n := Count(c.x, c.most); n != c.want {
+			t.Errorf("Count, at most %d: %d, want %d", c.most, n, c.want)
+		}
+	}
+}
+
+func TestFitOfVariablesTwice(t *testing.T) {
+	p := knot("f", knot("X"), knot("h", knot("X")), knot("Y"))
+	if stands, ok := Fit(p, knot("f", knot("a"), knot("h", knot("a")), knot("b"))); !ok || len(stands) != 2 {
+		t.Errorf("Fit: %v %v", stands, ok)
+	}
+	for _, x := range []api.Term{
+		knot("f", knot("a"), knot("h", knot("b")), knot("b")),
+		knot("f", knot("a"), knot("h", knot("a"))),
+		knot("f", knot("a"), knot("k", knot("a")), knot("b")),
+		knot("f", knot("a"), knot("X"), knot("b")),
+	} {
+		if stands, ok := Fit(p, x); ok || stands != nil {
+			t.Errorf("Fit of %s: %v", Text(x), stands)
+		}
 	}
 }

@@ -6,29 +6,18 @@ import (
 	"testing"
 
 	"metaprune/api"
+	"metaprune/sample"
 	"metaprune/subst"
 	"metaprune/term"
 )
 
-// knot makes a term without asking whether it may be.
-func knot(name string, args ...api.Term) api.Term { return api.Term{Name: name, Args: args} }
-
-// broad is f above so many of x.
-func broad(many int, x api.Term) api.Term {
-	t := knot("f")
-	for range many {
-		t.Args = append(t.Args, x)
-	}
-	return t
-}
-
-// endless holds itself, at both places below it.
-func endless() api.Term {
-	args := make([]api.Term, 2)
-	t := api.Term{Name: "f", Args: args}
-	args[0], args[1] = t, t
-	return t
-}
+var (
+	knot    = sample.Knot
+	broad   = sample.Broad
+	endless = sample.Endless
+	textOf  = sample.Text
+	spoil   = sample.Spoil
+)
 
 func parsed(t *testing.T, text string) api.Term {
 	t.Helper()
@@ -37,17 +26,6 @@ func parsed(t *testing.T, text string) api.Term {
 		t.Fatalf("Parse(%q): error %d", text, e)
 	}
 	return x
-}
-
-func textOf(t api.Term) string {
-	if len(t.Args) == 0 {
-		return t.Name
-	}
-	var l []string
-	for _, a := range t.Args {
-		l = append(l, textOf(a))
-	}
-	return t.Name + "(" + strings.Join(l, ",") + ")"
 }
 
 func textOfBinds(s []api.Bind) string {
@@ -356,14 +334,6 @@ func TestC1OfManyVariables(t *testing.T) {
 		if n := api.MaxNodes - 2 - i; b.Name != "X"+strconv.Itoa(999-n) || b.Term.Name != "a"+strconv.Itoa(n) {
 			t.Fatalf("Match: %s", textOfBinds(s))
 		}
-	}
-}
-
-// spoil writes into all memory of a term.
-func spoil(t api.Term) {
-	for i := range t.Args {
-		spoil(t.Args[i])
-		t.Args[i] = knot("spoilt")
 	}
 }
 

@@ -7,28 +7,18 @@ import (
 	"testing"
 
 	"metaprune/api"
+	"metaprune/sample"
 	"metaprune/term"
 )
 
-// knot makes a term without asking whether it may be.
-func knot(name string, args ...api.Term) api.Term { return api.Term{Name: name, Args: args} }
-
-// broad is f above so many of x.
-func broad(many int, x api.Term) api.Term {
-	t := knot("f")
-	for range many {
-		t.Args = append(t.Args, x)
-	}
-	return t
-}
-
-// endless holds itself, at both places below it.
-func endless() api.Term {
-	args := make([]api.Term, 2)
-	t := api.Term{Name: "f", Args: args}
-	args[0], args[1] = t, t
-	return t
-}
+var (
+	knot    = sample.Knot
+	broad   = sample.Broad
+	endless = sample.Endless
+	textOf  = sample.Text
+	spoil   = sample.Spoil
+	count   = sample.Count
+)
 
 func parsed(t *testing.T, text string) api.Term {
 	t.Helper()
@@ -48,17 +38,6 @@ func binds(t *testing.T, text string) []api.Bind {
 		s = append(s, api.Bind{Name: name, Term: parsed(t, x)})
 	}
 	return s
-}
-
-func textOf(t api.Term) string {
-	if len(t.Args) == 0 {
-		return t.Name
-	}
-	var l []string
-	for _, a := range t.Args {
-		l = append(l, textOf(a))
-	}
-	return t.Name + "(" + strings.Join(l, ",") + ")"
 }
 
 func textOfBinds(s []api.Bind) string {
@@ -220,14 +199,6 @@ func grown(knots int) ([]api.Bind, api.Term) {
 	return s, t
 }
 
-func count(t api.Term) int {
-	n := 1
-	for _, a := range t.Args {
-		n += count(a)
-	}
-	return n
-}
-
 func TestB2ApplyGrows(t *testing.T) {
 	for _, many := range []int{api.MaxGrown - 1, api.MaxGrown} {
 		s, x := grown(many)
@@ -372,14 +343,6 @@ func TestB2StaysIsDoneTwice(t *testing.T) {
 		if stays != (textOf(once) == textOf(twice)) || e != api.OK {
 			t.Errorf("Kind(%s): %v, error %d", textOfBinds(s), stays, e)
 		}
-	}
-}
-
-// spoil writes into all memory of a term.
-func spoil(t api.Term) {
-	for i := range t.Args {
-		spoil(t.Args[i])
-		t.Args[i] = knot("spoilt")
 	}
 }
 

@@ -12,17 +12,11 @@ func Places(t api.Term) ([][]int, api.Errno) {
 	if e := Check(t); e != api.OK {
 		return nil, e
 	}
-	return addPlaces(nil, t, nil), api.OK
-}
-
-// addPlaces puts the places of t behind all, t standing at the place here. The
-// memory behind here is used again from place to place: so copies of it are put.
-func addPlaces(all [][]int, t api.Term, here []int) [][]int {
-	all = append(all, slices.Clone(here))
-	for i, a := range t.Args {
-		all = addPlaces(all, a, append(here, i))
+	var all [][]int
+	for place := range knots.Down(t, nil) {
+		all = append(all, slices.Clone(place))
 	}
-	return all
+	return all, api.OK
 }
 
 // At is what stands at a place.
@@ -48,7 +42,7 @@ func Put(t api.Term, place []int, x api.Term) (api.Term, api.Errno) {
 	if _, ok := find(t, place); !ok {
 		return api.Term{}, api.ErrPlace
 	}
-	return replace(t, place, x), api.OK
+	return knots.Copy(knots.Put(t, place, x)), api.OK
 }
 
 // find is the term at a place, in t's own memory; false: there is no such place.
@@ -60,20 +54,4 @@ func find(t api.Term, place []int) (api.Term, bool) {
 		t = t.Args[i]
 	}
 	return t, true
-}
-
-// replace is a copy of t with a copy of x at a place that t has.
-func replace(t api.Term, place []int, x api.Term) api.Term {
-	if len(place) == 0 {
-		return knots.Copy(x)
-	}
-	out := api.Term{Name: t.Name, Args: make([]api.Term, len(t.Args))}
-	for i, a := range t.Args {
-		if i == place[0] {
-			out.Args[i] = replace(a, place[1:], x)
-		} else {
-			out.Args[i] = knots.Copy(a)
-		}
-	}
-	return out
 }

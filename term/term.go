@@ -10,23 +10,10 @@ import (
 
 // Check says whether a term may be.
 func Check(t api.Term) api.Errno {
-	if count(t, 0) > api.MaxNodes {
+	if knots.Count(t, api.MaxNodes) > api.MaxNodes {
 		return api.ErrLimit
 	}
 	return checkKnots(t)
-}
-
-// count adds the knots of t to those counted before. It stops at the first one
-// too many, so that it ends soon even on a term that holds itself.
-func count(t api.Term, before int) int {
-	n := before + 1
-	for _, a := range t.Args {
-		if n > api.MaxNodes {
-			return n
-		}
-		n = count(a, n)
-	}
-	return n
 }
 
 func checkKnots(t api.Term) api.Errno {

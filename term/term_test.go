@@ -7,18 +7,14 @@ import (
 	"testing"
 
 	"metaprune/api"
+	"metaprune/sample"
 )
 
-// knot makes a term without asking whether it may be.
-func knot(name string, args ...api.Term) api.Term { return api.Term{Name: name, Args: args} }
-
-// tower is h above h .. above x: so many h's.
-func tower(many int, x api.Term) api.Term {
-	for range many {
-		x = knot("h", x)
-	}
-	return x
-}
+var (
+	knot    = sample.Knot
+	tower   = sample.Tower
+	endless = sample.Endless
+)
 
 // broad is f above so many a's.
 func broad(many int) api.Term {
@@ -26,14 +22,6 @@ func broad(many int) api.Term {
 	for range many {
 		t.Args = append(t.Args, knot("a"))
 	}
-	return t
-}
-
-// endless holds itself, at both places below it.
-func endless() api.Term {
-	args := make([]api.Term, 2)
-	t := api.Term{Name: "f", Args: args}
-	args[0], args[1] = t, t
 	return t
 }
 

@@ -6,21 +6,19 @@ import (
 	"testing"
 
 	"metaprune/api"
+	"metaprune/sample"
 	"metaprune/subst"
 	"metaprune/term"
 )
 
-// knot makes a term without asking whether it may be.
-func knot(name string, args ...api.Term) api.Term { return api.Term{Name: name, Args: args} }
-
-// broad is f above so many of x.
-func broad(many int, x api.Term) api.Term {
-	t := knot("f")
-	for range many {
-		t.Args = append(t.Args, x)
-	}
-	return t
-}
+var (
+	knot    = sample.Knot
+	broad   = sample.Broad
+	endless = sample.Endless
+	textOf  = sample.Text
+	spoil   = sample.Spoil
+	count   = sample.Count
+)
 
 // row is f above so many variables, the first of that number.
 func row(letter string, first, many int) api.Term {
@@ -28,14 +26,6 @@ func row(letter string, first, many int) api.Term {
 	for i := range many {
 		t.Args = append(t.Args, knot(letter+strconv.Itoa(first+i)))
 	}
-	return t
-}
-
-// endless holds itself, at both places below it.
-func endless() api.Term {
-	args := make([]api.Term, 2)
-	t := api.Term{Name: "f", Args: args}
-	args[0], args[1] = t, t
 	return t
 }
 
@@ -57,17 +47,6 @@ func pairs(t *testing.T, text string) []api.Pair {
 		l = append(l, api.Pair{Left: parsed(t, left), Right: parsed(t, right)})
 	}
 	return l
-}
-
-func textOf(t api.Term) string {
-	if len(t.Args) == 0 {
-		return t.Name
-	}
-	var l []string
-	for _, a := range t.Args {
-		l = append(l, textOf(a))
-	}
-	return t.Name + "(" + strings.Join(l, ",") + ")"
 }
 
 func textOfBinds(s []api.Bind) string {
@@ -270,14 +249,6 @@ func TestD1TheFirstThatIsWrong(t *testing.T) {
 	}
 }
 
-func count(t api.Term) int {
-	n := 1
-	for _, a := range t.Args {
-		n += count(a)
-	}
-	return n
-}
-
 // grows has X at 19 places: with a term of 100 knots there it has MaxGrown and more knots.
 func grows(more int) api.Term {
 	t := broad(19, knot("X"))
@@ -454,14 +425,6 @@ func TestZ1UnifyOfChainsEndsSoon(t *testing.T) {
 	s, e = Unify(l)
 	if len(s) != 0 || e != api.ErrClash {
 		t.Errorf("%d bindings, error %d", len(s), e)
-	}
-}
-
-// spoil writes into all memory of a term.
-func spoil(t api.Term) {
-	for i := range t.Args {
-		spoil(t.Args[i])
-		t.Args[i] = knot("spoilt")
 	}
 }
 
