@@ -29,22 +29,6 @@ func down(t api.Term, here, from []int, yield func([]int, api.Term) bool) bool {
 	return true
 }
 
-// Up goes through knots as Down does, but each behind those below it.
-func Up(t api.Term, from []int) iter.Seq2[[]int, api.Term] {
-	return func(yield func([]int, api.Term) bool) { up(t, nil, from, yield) }
-}
-
-func up(t api.Term, here, from []int, yield func([]int, api.Term) bool) bool {
-	first, rest := next(from)
-	for i := first; i < len(t.Args); i++ {
-		if !up(t.Args[i], append(here, i), rest, yield) {
-			return false
-		}
-		rest = nil
-	}
-	return yield(here, t)
-}
-
 // next parts the way to a place: which of those below, and the way from there on.
 func next(way []int) (first int, rest []int) {
 	if len(way) == 0 {

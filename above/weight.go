@@ -1,4 +1,4 @@
-package order
+package above
 
 func (r ranks) heavier(a, b item) bool {
 	if !hasAllOf(a, b) {

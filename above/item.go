@@ -1,4 +1,7 @@
-package order
+// Package above: which term is above another one, of terms (and by rows) that were
+// asked already whether they may be. How many knots they have isn't asked: rules
+// are made of terms that came out, too.
+package above
 
 import (
 	"cmp"
@@ -6,6 +9,19 @@ import (
 	"metaprune/api"
 	"metaprune/knots"
 )
+
+// Path: is a above b by paths?
+func Path(row []string, a, b api.Term) bool {
+	p := paths{ranks: ranksOf(row), asked: map[[2]int]answer{}}
+	x, y := numbered(a, b)
+	return p.above(x, y)
+}
+
+// Weight: is a above b by weights?
+func Weight(row []string, a, b api.Term) bool {
+	x, y := numbered(a, b)
+	return ranksOf(row).heavier(x, y)
+}
 
 // item: a term that is told by its number: the same terms have the same one,
 // others others, so that they needn't be gone through to be told apart.

@@ -1,4 +1,4 @@
-package order
+package above
 
 // answer: is the first of two terms above the second?
 type answer struct{ above bool }
