@@ -85,6 +85,9 @@ func Holds(t api.Term, name string) bool {
 	return t.Name == name || slices.ContainsFunc(t.Args, func(a api.Term) bool { return Holds(a, name) })
 }
 
+// IsOpen: does some variable stand in a term?
+func IsOpen(t api.Term) bool { return IsVariable(t.Name) || slices.ContainsFunc(t.Args, IsOpen) }
+
 // InOrder takes bindings out of a map, in memory of their own: what stands for
 // two variables may be parts of one term.
 func InOrder(stands map[string]api.Term) []api.Bind {

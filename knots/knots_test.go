@@ -133,6 +133,23 @@ func TestHolds(t *testing.T) {
 	}
 }
 
+func TestIsOpen(t *testing.T) {
+	for _, c := range []struct {
+		x    api.Term
+		open bool
+	}{
+		{knot("X"), true},
+		{knot("a"), false},
+		{knot("aX"), false},
+		{knot("f", knot("a"), knot("h", knot("Y"))), true},
+		{knot("f", knot("a"), knot("h", knot("b"))), false},
+	} {
+		if IsOpen(c.x) != c.open {
+			t.Errorf("IsOpen of %s: %v", Text(c.x), !c.open)
+		}
+	}
+}
+
 func TestInOrder(t *testing.T) {
 	x := knot("h", knot("a"))
 	s := InOrder(map[string]api.Term{"X9": x, "X10": x, "A": knot("b")})
