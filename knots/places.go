@@ -5,6 +5,7 @@ import (
 	"slices"
 
 	"metaprune/api"
+	"metaprune/trees"
 )
 
 // Down goes through all knots, each ahead of those below it, from the left on:
@@ -49,17 +50,8 @@ func Put(t api.Term, place []int, x api.Term) api.Term {
 	return out
 }
 
-// Count is how many knots a term has. It stops at the first one that is more
-// than most, so that it ends soon even on a term that holds itself.
-func Count(t api.Term, most int) int { return countOn(t, most, 0) }
+// Count is how many knots a term has; it stops at the first one that is more than
+// most.
+func Count(t api.Term, most int) int { return trees.Count(t, argsOf, most) }
 
-func countOn(t api.Term, most, before int) int {
-	n := before + 1
-	for _, a := range t.Args {
-		if n > most {
-			return n
-		}
-		n = countOn(a, most, n)
-	}
-	return n
-}
+func argsOf(t api.Term) []api.Term { return t.Args }
