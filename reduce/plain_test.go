@@ -69,16 +69,18 @@ func plainRun(t api.Lam, under, most int, strict bool) (api.Lam, int, api.Errno)
 }
 
 // plainDevelop works with names that no two binders share; what comes to be there
-// twice is never bound within what comes for it.
-func plainDevelop(n sample.Named) sample.Named {
-	if isStep(n) {
-		f := n.Subs[0]
-		return plainDevelop(f.Subs[0]).Replace(f.Name, plainDevelop(n.Subs[1]))
-	}
+// twice is never bound within what comes for it. The knots of the greatest that some
+// knot comes to are told beside it.
+func plainDevelop(n sample.Named, greatest *int) sample.Named {
 	out := sample.Named{Name: n.Name}
 	for _, s := range n.Subs {
-		out.Subs = append(out.Subs, plainDevelop(s))
+		out.Subs = append(out.Subs, plainDevelop(s, greatest))
 	}
+	if isStep(n) {
+		f := out.Subs[0]
+		out = f.Subs[0].Replace(f.Name, out.Subs[1])
+	}
+	*greatest = max(*greatest, out.Count())
 	return out
 }
 
@@ -172,17 +174,25 @@ func TestN1StepsAreThoseOfNames(t *testing.T) {
 
 func TestN2DevelopmentsAreThoseOfNames(t *testing.T) {
 	d := sample.Die(23)
-	for range 4000 {
+	full := 0
+	for i := range 4000 {
 		x, under := drawn(&d, 7)
+		if i%3 == 0 {
+			x, under = drawnGreat(&d)
+		}
 		n, outside := named(x, under)
-		want := sample.WithoutNames(plainDevelop(n), outside)
-		got, e := Develop(x, under)
-		if e == api.ErrFull {
-			continue
+		greatest, e := 0, api.OK
+		want := sample.WithoutNames(plainDevelop(n, &greatest), outside)
+		if greatest > api.MaxGrown {
+			want, e = api.Lam{}, api.ErrFull
+			full++
 		}
-		if textOf(got) != textOf(want) || e != api.OK {
-			t.Fatalf("Develop of %s: %s, error %d, want %s", textOf(x), textOf(got), e, textOf(want))
+		if got, f := Develop(x, under); textOf(got) != textOf(want) || f != e {
+			t.Fatalf("Develop of %s: %s, error %d, want %s, error %d", textOf(x), textOf(got), f, textOf(want), e)
 		}
+	}
+	if full < 20 || full > 2000 {
+		t.Errorf("%d were too great", full)
 	}
 }
 

@@ -291,6 +291,8 @@ func TestN2Develop(t *testing.T) {
 }
 
 func TestN2DevelopFull(t *testing.T) {
+	// It comes to MaxGrown - 1 knots: 50 of 39, and 49 Applies.
+	less := applied(binder(row(50, bound(0))), applied(konst(0), nested(36, konst(0))))
 	for what, c := range map[string]struct {
 		t api.Lam
 		e api.Errno
@@ -304,6 +306,10 @@ func TestN2DevelopFull(t *testing.T) {
 		"MaxGrown + 1 in what is left out":   {applied(binder(konst(0)), applied(konst(0), grows(0))), api.ErrFull},
 		"MaxGrown + 1 in a binder's Sub":     {applied(binder(applied(binder(konst(0)), grows(1))), konst(0)), api.ErrFull},
 		"in a binder's Sub, then left out":   {applied(binder(applied(binder(konst(0)), grows(0))), konst(0)), api.OK},
+		"MaxGrown, of an applied binder":     {applied(binder(less), konst(0)), api.OK},
+		"MaxGrown + 1, of an applied binder": {applied(binder(grows(0)), konst(0)), api.ErrFull},
+		"likewise, within what is left out":  {applied(binder(konst(0)), applied(binder(grows(0)), konst(0))), api.ErrFull},
+		"likewise, of one that is no binder": {applied(konst(0), less), api.ErrFull},
 		"far more than MaxGrown":             {applied(binder(row(60, bound(0))), row(38, konst(0))), api.ErrFull},
 		"far more, in another Apply's Sub":   {applied(konst(0), applied(binder(row(60, bound(0))), row(37, konst(0)))), api.ErrFull},
 		"far more, by two, one in the other": {applied(binder(row(12, bound(0))), applied(binder(row(12, bound(0))), row(12, konst(0)))), api.ErrFull},

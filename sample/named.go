@@ -72,6 +72,15 @@ func (t Named) Has(name string) bool {
 	return slices.ContainsFunc(t.Subs, func(s Named) bool { return s.Has(name) })
 }
 
+// Count is how many knots t has.
+func (t Named) Count() int {
+	n := 1
+	for _, s := range t.Subs {
+		n += s.Count()
+	}
+	return n
+}
+
 // Outside are so many names for what is bound from outside.
 func Outside(many int) []string {
 	var l []string
