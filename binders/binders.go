@@ -66,6 +66,11 @@ func Count(t api.Lam, most int) int { return trees.Count(t, subsOf, most) }
 
 func subsOf(t api.Lam) []api.Lam { return t.Subs }
 
+// Same: are two lambda terms the same?
+func Same(a, b api.Lam) bool { return trees.Same(a, b, subsOf, isAlike) }
+
+func isAlike(a, b api.Lam) bool { return a.Kind == b.Kind && a.Index == b.Index }
+
 // Holds: does what the index-th binder from outside binds stand in t?
 func Holds(t api.Lam, index int) bool {
 	if t.Kind == api.Bound {

@@ -54,6 +54,23 @@ func TestCount(t *testing.T) {
 	}
 }
 
+func TestSame(t *testing.T) {
+	l := []api.Lam{
+		bound(0), bound(1), konst(0), meta(0), binder(bound(0)), binder(bound(1)), binder(binder(bound(0))),
+		applied(bound(0), bound(0)), applied(bound(0), bound(1)), applied(bound(1), bound(0)), {}, {Kind: api.Apply},
+	}
+	for i := range l {
+		for j := range l {
+			if Same(l[i], l[j]) != (i == j) {
+				t.Errorf("Same of %s and %s: %v", textOf(l[i]), textOf(l[j]), i != j)
+			}
+		}
+	}
+	if !Same(binder(bound(0)), binder(api.Lam{Kind: api.Bound, Subs: []api.Lam{}})) {
+		t.Error("an empty list below is none")
+	}
+}
+
 func TestHolds(t *testing.T) {
 	x := applied(bound(1), binder(applied(bound(0), bound(4))), konst(2), meta(5))
 	for index, want := range []bool{false, true, false, true, false, false} {

@@ -13,6 +13,23 @@ func Fill(t api.Term, most int, stands func(name string) (api.Term, bool)) (api.
 	return out, true
 }
 
+// ByName lays bindings into a map.
+func ByName(s []api.Bind) map[string]api.Term {
+	stands := map[string]api.Term{}
+	for _, b := range s {
+		stands[b.Name] = b.Term
+	}
+	return stands
+}
+
+// Look looks for what stands for a variable, as Fill asks for it.
+func Look(stands map[string]api.Term) func(name string) (api.Term, bool) {
+	return func(name string) (api.Term, bool) {
+		x, ok := stands[name]
+		return x, ok
+	}
+}
+
 // filler: how many knots may still come, and what stands for variables.
 type filler struct {
 	left   int

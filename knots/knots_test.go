@@ -84,6 +84,21 @@ func TestFillEndsSoon(t *testing.T) {
 	}
 }
 
+func TestLook(t *testing.T) {
+	look := Look(ByName([]api.Bind{{Name: "X", Term: knot("a")}, {Name: "Y", Term: knot("h", knot("X"))}}))
+	for name, want := range map[string]string{"X": "a", "Y": "h(X)"} {
+		if x, ok := look(name); !ok || Text(x) != want {
+			t.Errorf("%s: %s, %v", name, Text(x), ok)
+		}
+	}
+	if x, ok := look("Z"); ok || !Same(x, api.Term{}) {
+		t.Errorf("Z: %s, %v", Text(x), ok)
+	}
+	if y, ok := Fill(knot("f", knot("X"), knot("Y"), knot("Z")), 9, look); !ok || Text(y) != "f(a,h(X),Z)" {
+		t.Errorf("Fill: %s, %v", Text(y), ok)
+	}
+}
+
 func TestFitOfGreatTerms(t *testing.T) {
 	x := broad(api.MaxGrown, knot("a"))
 	stands, ok := Fit(knot("g", knot("X"), knot("X")), knot("g", x, Copy(x)))

@@ -57,14 +57,7 @@ func isLike(x, left api.Term) bool { return x.Name == left.Name && len(x.Args) =
 // pairAt is what a term becomes by the one rule, at the whole, and by the other
 // one, at a place.
 func pairAt(both [2]api.Pair, place []int, s []api.Bind) (api.Pair, api.Errno) {
-	stands := map[string]api.Term{}
-	for _, b := range s {
-		stands[b.Name] = b.Term
-	}
-	look := func(name string) (api.Term, bool) {
-		x, ok := stands[name]
-		return x, ok
-	}
+	look := knots.Look(knots.ByName(s))
 	whole, ok := knots.Fill(both[0].Right, api.MaxGrown, look)
 	if !ok {
 		return api.Pair{}, api.ErrFull

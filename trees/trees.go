@@ -16,3 +16,17 @@ func countOn[T any](t T, below func(T) []T, most, before int) int {
 	}
 	return n
 }
+
+// Same: are two alike, knot by knot?
+func Same[T any](a, b T, below func(T) []T, alike func(a, b T) bool) bool {
+	x, y := below(a), below(b)
+	if len(x) != len(y) || !alike(a, b) {
+		return false
+	}
+	for i := range x {
+		if !Same(x[i], y[i], below, alike) {
+			return false
+		}
+	}
+	return true
+}

@@ -2,72 +2,11 @@ package unify
 
 import (
 	"iter"
-	"slices"
-	"strings"
 	"testing"
 
 	"metaprune/api"
+	"metaprune/sample"
 )
-
-// plain does word by word what the promise says, as slow as that may be.
-func plain(l []api.Pair) ([]api.Bind, api.Errno) {
-	var s []api.Bind
-	todo := slices.Clone(l)
-	for len(todo) > 0 {
-		a, b := todo[0].Left, todo[0].Right
-		todo = todo[1:]
-		for _, t := range []*api.Term{&a, &b} {
-			*t = withAll(*t, s)
-			if count(*t) > api.MaxGrown {
-				return nil, api.ErrFull
-			}
-		}
-		switch {
-		case isVariable(a) && a.Name == b.Name:
-			continue
-		case isVariable(b) && !isVariable(a):
-			a, b = b, a
-		case isVariable(a):
-		case a.Name != b.Name || len(a.Args) != len(b.Args):
-			return nil, api.ErrClash
-		default:
-			var below []api.Pair
-			for i := range a.Args {
-				below = append(below, api.Pair{Left: a.Args[i], Right: b.Args[i]})
-			}
-			todo = append(below, todo...)
-			continue
-		}
-		one := []api.Bind{{Name: a.Name, Term: b}}
-		if textOf(withAll(b, one)) != textOf(b) {
-			return nil, api.ErrOccurs
-		}
-		for i := range s {
-			s[i].Term = withAll(s[i].Term, one)
-			if count(s[i].Term) > api.MaxGrown {
-				return nil, api.ErrFull
-			}
-		}
-		s = append(s, one...)
-		slices.SortFunc(s, func(x, y api.Bind) int { return strings.Compare(x.Name, y.Name) })
-	}
-	return s, api.OK
-}
-
-func isVariable(t api.Term) bool { return t.Name[0] < 'a' }
-
-func withAll(t api.Term, s []api.Bind) api.Term {
-	for _, b := range s {
-		if t.Name == b.Name {
-			return b.Term
-		}
-	}
-	out := knot(t.Name)
-	for _, a := range t.Args {
-		out.Args = append(out.Args, withAll(a, s))
-	}
-	return out
-}
 
 // die: numbers that look drawn, the same each time.
 type die uint32
@@ -141,7 +80,7 @@ func TestD1WordByWord(t *testing.T) {
 	for _, draw := range []iter.Seq[[]api.Pair]{drawn(4000), great(1500)} {
 		for l := range draw {
 			s, e := Unify(l)
-			r, f := plain(l)
+			r, f := sample.Unify(l)
 			if e != f || textOfBinds(s) != textOfBinds(r) {
 				t.Fatalf("Unify of %s: error %d %s, want %d %s", textOfPairs(l), e, textOfBinds(s), f, textOfBinds(r))
 			}

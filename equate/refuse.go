@@ -1,4 +1,4 @@
-package unify
+package equate
 
 import (
 	"metaprune/api"
