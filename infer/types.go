@@ -1,29 +1,9 @@
 package infer
 
 import (
-	"strconv"
-	"strings"
-
 	"metaprune/api"
 	"metaprune/trees"
 )
-
-func write(b *strings.Builder, t api.Type) {
-	if len(t.Subs) == 0 {
-		b.WriteByte('a')
-		b.WriteString(strconv.Itoa(t.Base))
-		return
-	}
-	if len(t.Subs[0].Subs) == 0 {
-		write(b, t.Subs[0])
-	} else {
-		b.WriteByte('(')
-		write(b, t.Subs[0])
-		b.WriteByte(')')
-	}
-	b.WriteByte('>')
-	write(b, t.Subs[1])
-}
 
 // isCase: is ty what p becomes, if some types stand for p's bases?
 func isCase(p, ty api.Type) bool {

@@ -1,4 +1,4 @@
-package lambda
+package binders
 
 import (
 	"strconv"
@@ -6,6 +6,14 @@ import (
 
 	"metaprune/api"
 )
+
+// Text of a lambda term in which no unknowns stand: free names stand for what is
+// bound from outside, the last one for the nearest.
+func Text(t api.Lam, free []string) string {
+	w := writer{free: free}
+	w.term(t, 0)
+	return w.String()
+}
 
 // writer: what is written so far, and the names of what is bound from outside.
 type writer struct {
